@@ -178,17 +178,15 @@ func TestP2StreamsDoNotDisturbEachOther(t *testing.T) {
 	}
 }
 
-func TestP2AnswersHangOnArgumentsAlone(t *testing.T) {
-	wantSum, wantStream := librarySum(512, "text"), libraryStream(256, "text", 2000)
+// atTheSameTime has 16 goroutines ask, each with its own number, again and again; right tells whether what came out is.
+func atTheSameTime(t *testing.T, right func(i int) bool) {
+	t.Helper()
 	wrong := make([]int, 16)
 	var all sync.WaitGroup
 	for i := range wrong {
 		all.Go(func() {
 			for range 50 {
-				a, _ := latticekeys.Sum(512, "text")
-				x, _ := latticekeys.NewStream(256)
-				x.Absorb("text")
-				if b, _ := x.Squeeze(2000); a != wantSum || b != wantStream {
+				if !right(i) {
 					wrong[i]++
 				}
 			}
@@ -202,15 +200,33 @@ func TestP2AnswersHangOnArgumentsAlone(t *testing.T) {
 	}
 }
 
-func TestP2GoroutinesHaveEnded(t *testing.T) {
+func wantNoGoroutineLeft(t *testing.T, call func(i int)) {
+	t.Helper()
 	before := runtime.NumGoroutine()
-	for range 100 {
-		sum(t, 256, "text")
-		squeeze(t, stream(t, 128, "text"), 1000)
+	for i := range 100 {
+		call(i)
 		if now := runtime.NumGoroutine(); now > before {
 			t.Fatalf("P2: %d goroutines behind a call, %d ahead of it", now, before)
 		}
 	}
+}
+
+func TestP2AnswersHangOnArgumentsAlone(t *testing.T) {
+	wantSum, wantStream := librarySum(512, "text"), libraryStream(256, "text", 2000)
+	atTheSameTime(t, func(int) bool {
+		a, _ := latticekeys.Sum(512, "text")
+		x, _ := latticekeys.NewStream(256)
+		x.Absorb("text")
+		b, _ := x.Squeeze(2000)
+		return a == wantSum && b == wantStream
+	})
+}
+
+func TestP2GoroutinesHaveEnded(t *testing.T) {
+	wantNoGoroutineLeft(t, func(int) {
+		sum(t, 256, "text")
+		squeeze(t, stream(t, 128, "text"), 1000)
+	})
 }
 
 func TestP3KnownSums(t *testing.T) {

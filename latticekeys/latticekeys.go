@@ -3,27 +3,6 @@ package latticekeys
 
 import "latticekeys/api"
 
-// Forward transforms a polynomial modulo q (P5).
-func Forward(q int, f api.Poly) (api.Poly, error) { return api.Poly{}, nil }
-
-// Inverse takes that back (P5).
-func Inverse(q int, f api.Poly) (api.Poly, error) { return api.Poly{}, nil }
-
-// Product multiplies what was transformed (P5).
-func Product(q int, f, g api.Poly) (api.Poly, error) { return api.Poly{}, nil }
-
-// Compress keeps d bits of each coefficient (P6).
-func Compress(d int, f api.Poly) (api.Poly, error) { return api.Poly{}, nil }
-
-// Decompress goes back, roughly (P6).
-func Decompress(d int, f api.Poly) (api.Poly, error) { return api.Poly{}, nil }
-
-// Pack writes d bits of each coefficient (P7).
-func Pack(d int, f api.Poly) (string, error) { return "", nil }
-
-// Unpack reads them (P7).
-func Unpack(d int, s string) (api.Poly, error) { return api.Poly{}, nil }
-
 // KeyGen makes an encapsulation key and a decapsulation key (P9).
 func KeyGen(set int, d, z string) (string, string, error) { return "", "", nil }
 
