@@ -10,10 +10,7 @@ func Sum(bits int, s string) (string, error) {
 	if bits != 256 && bits != 512 {
 		return "", api.ErrSet
 	}
-	var x sponge.Sponge
-	x.Start(rateOf(bits), sponge.SumEnd)
-	x.Absorb(s)
-	return string(x.Squeeze(bits / 8)), nil
+	return sponge.Sum(bits, s), nil
 }
 
 // Stream is SHAKE (P4).
@@ -26,9 +23,7 @@ func NewStream(bits int) (*Stream, error) {
 	if bits != 128 && bits != 256 {
 		return nil, api.ErrSet
 	}
-	x := &Stream{}
-	x.sponge.Start(rateOf(bits), sponge.StreamEnd)
-	return x, nil
+	return &Stream{sponge: sponge.Stream(bits, "")}, nil
 }
 
 // Absorb takes more bytes (P4).
@@ -56,6 +51,3 @@ func (x *Stream) Squeeze(n int) (string, error) {
 
 // made is false for what NewStream gives beside an error, and for a Stream that it never saw: a call on one must not panic either.
 func (x *Stream) made() bool { return x != nil && x.sponge.Started() }
-
-// rateOf: of the 200 bytes of a state a hash holds twice its bits back.
-func rateOf(bits int) int { return 200 - 2*bits/8 }

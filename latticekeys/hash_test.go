@@ -10,6 +10,7 @@ import (
 	"strings"
 	"sync"
 	"testing"
+	"time"
 	"unsafe"
 
 	"latticekeys/api"
@@ -205,10 +206,21 @@ func wantNoGoroutineLeft(t *testing.T, call func(i int)) {
 	before := runtime.NumGoroutine()
 	for i := range 100 {
 		call(i)
-		if now := runtime.NumGoroutine(); now > before {
+		if now := settled(before); now > before {
 			t.Fatalf("P2: %d goroutines behind a call, %d ahead of it", now, before)
 		}
 	}
+}
+
+// settled waits for the runtime: a goroutine is still counted for a moment when its last line has run.
+func settled(want int) int {
+	for range 1000 {
+		if runtime.NumGoroutine() <= want {
+			break
+		}
+		time.Sleep(time.Millisecond)
+	}
+	return runtime.NumGoroutine()
 }
 
 func TestP2AnswersHangOnArgumentsAlone(t *testing.T) {

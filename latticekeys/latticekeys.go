@@ -3,15 +3,6 @@ package latticekeys
 
 import "latticekeys/api"
 
-// KeyGen makes an encapsulation key and a decapsulation key (P9).
-func KeyGen(set int, d, z string) (string, string, error) { return "", "", nil }
-
-// Encaps makes a key, and the ciphertext that carries it (P10).
-func Encaps(set int, ek, m string) (string, string, error) { return "", "", nil }
-
-// Decaps gets the key out of the ciphertext (P11).
-func Decaps(set int, dk, c string) (string, error) { return "", nil }
-
 // Halve parts each coefficient in a high part and 13 low bits (P12).
 func Halve(f api.Poly) (api.Poly, api.Poly, error) { return api.Poly{}, api.Poly{}, nil }
 

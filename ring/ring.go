@@ -79,6 +79,30 @@ func (r *Ring[W]) minus(a, b W) W {
 	return c
 }
 
+// Q is the number that the ring is modulo.
+func (r *Ring[W]) Q() W { return r.q }
+
+// Reduced takes each coefficient, of any size, modulo q.
+func (r *Ring[W]) Reduced(f Poly[W]) Poly[W] {
+	return each(f, func(a W) W { return a % r.q })
+}
+
+// Sum adds two polynomials, transformed both or neither.
+func (r *Ring[W]) Sum(f, g Poly[W]) Poly[W] {
+	for i := range f {
+		f[i] = r.plus(f[i], g[i])
+	}
+	return f
+}
+
+// Difference takes the second from the first.
+func (r *Ring[W]) Difference(f, g Poly[W]) Poly[W] {
+	for i := range f {
+		f[i] = r.minus(f[i], g[i])
+	}
+	return f
+}
+
 // Forward transforms a polynomial: layer by layer each X^2n - z^2 becomes X^n - z and X^n + z, and what was modulo it two polynomials half as long.
 func (r *Ring[W]) Forward(f Poly[W]) Poly[W] {
 	next := 1

@@ -37,6 +37,29 @@ func counting[W Word](t *testing.T, r *Ring[W], q int) {
 	}
 }
 
+func TestSumDifferenceAndReduced(t *testing.T) {
+	sumAndDifference(t, Small(), api.Small)
+	sumAndDifference(t, Great(), api.Great)
+}
+
+func sumAndDifference[W Word](t *testing.T, r *Ring[W], q int) {
+	if int(r.Q()) != q {
+		t.Errorf("the ring modulo %d is modulo %d", q, r.Q())
+	}
+	top := W(q - 1)
+	f, g := Poly[W]{0, 0, 1, top, top, 5}, Poly[W]{0, 1, top, top, 1, 3}
+	if got, want := r.Sum(f, g), (Poly[W]{0, 1, 0, top - 1, 0, 8}); got != want {
+		t.Errorf("the sum modulo %d is %v", q, got)
+	}
+	if got, want := r.Difference(f, g), (Poly[W]{0, top, 2, 0, top - 1, 2}); got != want {
+		t.Errorf("the difference modulo %d is %v", q, got)
+	}
+	h := Poly[W]{0, top, top + 1, top + 2, 2*top + 2, ^W(0), 255: top + 1}
+	if got, want := r.Reduced(h), (Poly[W]{0, top, 0, 1, 0, ^W(0) % W(q)}); got != want {
+		t.Errorf("reduced modulo %d it is %v", q, got)
+	}
+}
+
 func TestReversed(t *testing.T) {
 	for _, c := range [][3]int{{0, 7, 0}, {1, 7, 64}, {64, 7, 1}, {6, 7, 48}, {127, 7, 127}, {1, 8, 128}, {128, 8, 1}, {255, 8, 255}} {
 		if got := reversed(c[0], c[1]); got != c[2] {
@@ -66,6 +89,9 @@ func TestArgumentsStay(t *testing.T) {
 	r.Forward(f)
 	r.Inverse(f)
 	r.Product(f, g)
+	r.Sum(f, g)
+	r.Difference(f, g)
+	r.Reduced(f)
 	Compress(4, f)
 	if f != was || g != gWas {
 		t.Error("what is done to a polynomial is done to the caller's")

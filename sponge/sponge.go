@@ -1,12 +1,6 @@
 // Package sponge has the sponge that SHA3 and SHAKE are made of (DOC.md, P3 and P4).
 package sponge
 
-// The ends by which the two kinds of hashes differ.
-const (
-	SumEnd    = 0x06
-	StreamEnd = 0x1F
-)
-
 // lastBit closes the last rate of a text.
 const lastBit = 0x80
 
@@ -42,12 +36,18 @@ func (s *Sponge) Absorb(text string) {
 	}
 }
 
-// Squeeze gives the next n bytes, of memory that is the caller's. The first one ends the text, even with n = 0.
+// Squeeze gives the next n bytes, of memory that is the caller's.
 func (s *Sponge) Squeeze(n int) []byte {
+	out := make([]byte, n)
+	s.Fill(out)
+	return out
+}
+
+// Fill gives the next bytes, as many as out has room for. The first time ends the text, even with no room.
+func (s *Sponge) Fill(out []byte) {
 	if !s.spent {
 		s.finish()
 	}
-	out := make([]byte, n)
 	for i := range out {
 		// Not behind the rate's last byte already: it may be the last one that is ever asked for.
 		if s.place == s.rate {
@@ -56,7 +56,6 @@ func (s *Sponge) Squeeze(n int) []byte {
 		out[i] = byte(s.lanes[s.place/laneBytes] >> shift(s.place))
 		s.place++
 	}
-	return out
 }
 
 // finish lays the end behind the text; both marks may fall on one byte.

@@ -13,11 +13,11 @@ func started(rate int, end byte) *Sponge {
 }
 
 func TestStartForgetsEverything(t *testing.T) {
-	want := started(136, SumEnd).Squeeze(300)
-	used := started(168, StreamEnd)
+	want := started(136, sumEnd).Squeeze(300)
+	used := started(168, streamEnd)
 	used.Absorb(strings.Repeat("used", 100))
 	used.Squeeze(77)
-	used.Start(136, SumEnd)
+	used.Start(136, sumEnd)
 	if used.Spent() {
 		t.Error("a sponge that was started again is spent")
 	}
@@ -31,17 +31,17 @@ func TestStartedTellsOfStart(t *testing.T) {
 	if s.Started() {
 		t.Error("a sponge is started by itself")
 	}
-	if s.Start(72, SumEnd); !s.Started() {
+	if s.Start(72, sumEnd); !s.Started() {
 		t.Error("a sponge that was started is not")
 	}
 }
 
 func TestCopyGoesOnByItself(t *testing.T) {
-	whole := started(168, StreamEnd)
+	whole := started(168, streamEnd)
 	whole.Absorb("one, two")
 	want := whole.Squeeze(500)
 
-	s := started(168, StreamEnd)
+	s := started(168, streamEnd)
 	s.Absorb("one, ")
 	other := *s
 	other.Absorb("three")
