@@ -83,12 +83,21 @@ func modulo(q int, small work[uint16], great work[uint32], l ...api.Poly) (api.P
 
 // calculate does a call's work on polynomials that must all be in bounds of n.
 func calculate[W ring.Word](n int, done func(l []ring.Poly[W]) ring.Poly[W], l ...api.Poly) (api.Poly, error) {
+	narrow, err := narrowed[W](n, l...)
+	if err != nil {
+		return api.Poly{}, err
+	}
+	return ring.Wide(done(narrow)), nil
+}
+
+// narrowed takes polynomials in that must all be in bounds of n.
+func narrowed[W ring.Word](n int, l ...api.Poly) ([]ring.Poly[W], error) {
 	narrow := make([]ring.Poly[W], len(l))
 	for i, f := range l {
 		var err error
 		if narrow[i], err = ring.Narrow[W](f, n); err != nil {
-			return api.Poly{}, err
+			return nil, err
 		}
 	}
-	return ring.Wide(done(narrow)), nil
+	return narrow, nil
 }
