@@ -121,11 +121,11 @@ func TestVectors(t *testing.T) {
 	from := rand.New(rand.NewSource(2))
 	v, w := random[uint32](from, api.Great, 3), random[uint32](from, api.Great, 3)
 	vWas, wWas := v.Each(r.Reduced), w.Each(r.Reduced)
-	sum, forward, dot := Sum(r, v, w), v.Each(r.Forward), Dot(r, v, w)
+	sum, difference, forward, dot := v.With(w, r.Sum), v.With(w, r.Difference), v.Each(r.Forward), Dot(r, v, w)
 	var want ring.Poly[uint32]
 	for i := range v {
-		if sum[i] != r.Sum(v[i], w[i]) || forward[i] != r.Forward(v[i]) {
-			t.Errorf("another sum or transform at %d", i)
+		if sum[i] != r.Sum(v[i], w[i]) || difference[i] != r.Difference(v[i], w[i]) || forward[i] != r.Forward(v[i]) {
+			t.Errorf("another sum, difference or transform at %d", i)
 		}
 		want = r.Sum(want, r.Product(v[i], w[i]))
 	}

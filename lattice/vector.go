@@ -1,4 +1,4 @@
-// Package lattice has vectors and matrices of polynomials, and draws a matrix from a seed (DOC.md, P8).
+// Package lattice has vectors and matrices of polynomials, and draws a matrix from a seed (DOC.md, P8 and P15).
 package lattice
 
 import (
@@ -19,11 +19,11 @@ func (v Vector[W]) Each(made func(f ring.Poly[W]) ring.Poly[W]) Vector[W] {
 	return out
 }
 
-// Sum adds two vectors that are equally long.
-func Sum[W ring.Word](r *ring.Ring[W], v, w Vector[W]) Vector[W] {
+// With makes every polynomial anew with the one beside it in a vector that is equally long.
+func (v Vector[W]) With(w Vector[W], made func(f, g ring.Poly[W]) ring.Poly[W]) Vector[W] {
 	out := make(Vector[W], len(v))
-	for i := range v {
-		out[i] = r.Sum(v[i], w[i])
+	for i, f := range v {
+		out[i] = made(f, w[i])
 	}
 	return out
 }

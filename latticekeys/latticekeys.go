@@ -1,12 +1,6 @@
 // Package latticekeys: keys that are wrapped, and signatures, by lattices: see DOC.md.
 package latticekeys
 
-// SignKeys makes a public key and a secret key (P16).
-func SignKeys(set int, xi string) (string, string, error) { return "", "", nil }
-
-// Sign signs, in at most so many tries (P17).
-func Sign(set int, sk, m, rnd string, fuel int) (string, error) { return "", nil }
-
 // Verify tells whether a signature is one (P18).
 func Verify(set int, pk, m, sig string) (bool, error) { return false, nil }
 

@@ -5,11 +5,12 @@ import (
 
 	"latticekeys/ring"
 	"latticekeys/sponge"
+	"latticekeys/text"
 )
 
 // noise is NOISE(eta, seed, n): a coefficient's bits stand together, those that count up below those that count down.
 func (s *Scheme) noise(eta int, seed string, n int) poly {
-	drawn := sponge.H(seed+octet(n), ring.PackedBytes(2*eta))
+	drawn := sponge.H(seed+text.Number(n, 1), ring.PackedBytes(2*eta))
 	var up, down poly
 	for i, a := range ring.Unpack[uint16](2*eta, drawn) {
 		up[i] = uint16(bits.OnesCount16(a & (1<<eta - 1)))
@@ -26,6 +27,3 @@ func (s *Scheme) noises(eta int, seed string, n int) vector {
 	}
 	return v
 }
-
-// octet is the document's [n].
-func octet(n int) string { return string([]byte{byte(n)}) }

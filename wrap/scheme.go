@@ -38,13 +38,6 @@ func New(set int) *Scheme {
 	panic(api.ErrSet)
 }
 
-// demand throws, unless what it asks for holds.
-func demand(holds bool, wrong api.Errno) {
-	if !holds {
-		panic(wrong)
-	}
-}
-
 func (s *Scheme) vectorBytes() int { return s.k * ring.PackedBytes(keyBits) }
 
 func (s *Scheme) encapsulationKeyBytes() int { return s.vectorBytes() + seedBytes }

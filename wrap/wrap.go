@@ -7,6 +7,8 @@ import (
 	"latticekeys/lattice"
 	"latticekeys/ring"
 	"latticekeys/sponge"
+	"latticekeys/text"
+	"latticekeys/throw"
 )
 
 // ciphertextNoise is the greatest noise that is laid over a ciphertext.
@@ -14,18 +16,18 @@ const ciphertextNoise = 2
 
 // Encaps makes a key of a message, and the ciphertext that carries it. It throws ErrLength and ErrKey.
 func (s *Scheme) Encaps(ek, m string) (key, ciphertext string) {
-	demand(len(ek) == s.encapsulationKeyBytes() && len(m) == seedBytes, api.ErrLength)
+	throw.Unless(len(ek) == s.encapsulationKeyBytes() && len(m) == seedBytes, api.ErrLength)
 	t := s.readEncapsulationKey(ek).t
-	demand(slices.Equal(t, t.Each(s.ring.Reduced)), api.ErrKey)
+	throw.Unless(slices.Equal(t, t.Each(s.ring.Reduced)), api.ErrKey)
 	key, seed := twoSeeds(m + sponge.Sum(256, ek))
 	return key, s.encrypted(ek, m, seed)
 }
 
 // Decaps gets the key out of a ciphertext, or, out of one that Encaps does not make, another that tells nothing. It throws ErrLength and ErrHash.
 func (s *Scheme) Decaps(dk, c string) string {
-	demand(len(dk) == s.decapsulationKeyBytes() && len(c) == s.ciphertextBytes(), api.ErrLength)
+	throw.Unless(len(dk) == s.decapsulationKeyBytes() && len(c) == s.ciphertextBytes(), api.ErrLength)
 	secret := s.readDecapsulationKey(dk)
-	demand(secret.hash == hash([]byte(sponge.Sum(256, secret.ek))), api.ErrHash)
+	throw.Unless(secret.hash == hash([]byte(sponge.Sum(256, secret.ek))), api.ErrHash)
 	m := s.decrypted(secret.s, c)
 	key, seed := twoSeeds(m + string(secret.hash[:]))
 	if s.encrypted(secret.ek, m, seed) != c {
@@ -39,7 +41,7 @@ func (s *Scheme) encrypted(ek, m, seed string) string {
 	public := s.readEncapsulationKey(ek)
 	y := s.noises(s.eta, seed, 0).Each(s.ring.Forward)
 	u := lattice.Draw(s.ring, public.rho, s.k, s.k).Transposed().Times(y).Each(s.ring.Inverse)
-	u = lattice.Sum(s.ring, u, s.noises(ciphertextNoise, seed, s.k))
+	u = u.With(s.noises(ciphertextNoise, seed, s.k), s.ring.Sum)
 	v := s.ring.Inverse(lattice.Dot(s.ring, public.t.Each(s.ring.Reduced), y))
 	v = s.ring.Sum(v, s.noise(ciphertextNoise, seed, 2*s.k))
 	v = s.ring.Sum(v, ring.Decompress(1, ring.Unpack[uint16](1, m)))
@@ -48,7 +50,7 @@ func (s *Scheme) encrypted(ek, m, seed string) string {
 
 // decrypted is the message that a ciphertext carries: what the noise leaves of each bit is nearer to it than to the other.
 func (s *Scheme) decrypted(secret vector, c string) string {
-	u := decompressed(s.du, cut(&c, s.k*ring.PackedBytes(s.du))).Each(s.ring.Forward)
+	u := decompressed(s.du, text.Cut(&c, s.k*ring.PackedBytes(s.du))).Each(s.ring.Forward)
 	v := decompressed(s.dv, c)[0]
 	mask := s.ring.Inverse(lattice.Dot(s.ring, secret.Each(s.ring.Reduced), u))
 	return compressed(1, vector{s.ring.Difference(v, mask)})
