@@ -1,7 +1,6 @@
 package latticekeys_test
 
 import (
-	"bytes"
 	"crypto/sha3"
 	"encoding/hex"
 	"math"
@@ -131,21 +130,40 @@ func TestP1LongTexts(t *testing.T) {
 	}
 }
 
+// lent are texts whose bytes a test can change, and what they were.
+type lent struct {
+	under [][]byte
+	was   []string
+}
+
+func (l *lent) text(s string) string {
+	b := []byte(s)
+	l.under, l.was = append(l.under, b), append(l.was, s)
+	return unsafe.String(&b[0], len(b))
+}
+
+// takenBack makes noughts of all that was lent: what hangs on it still is seen.
+func (l *lent) takenBack(t *testing.T) {
+	t.Helper()
+	for i, b := range l.under {
+		if string(b) != l.was[i] {
+			t.Fatalf("P2: text %d, of %d bytes, was written into", i, len(b))
+		}
+		clear(b)
+	}
+}
+
 func TestP2TextIsNeitherWrittenNorKept(t *testing.T) {
 	for _, n := range []int{1, 8, 100, 135, 136, 168, 500} {
-		under := []byte(text(rand.New(rand.NewSource(int64(n))), n))
-		was := bytes.Clone(under)
-		s := unsafe.String(&under[0], n) // a text whose bytes this test can change
-		got := sum(t, 256, s)
-		x := stream(t, 128, s)
-		if !bytes.Equal(under, was) {
-			t.Fatalf("P2: a text of %d bytes was written into", n)
-		}
-		clear(under)
-		if got != librarySum(256, string(was)) {
+		var mine lent
+		s := text(rand.New(rand.NewSource(int64(n))), n)
+		got := sum(t, 256, mine.text(s))
+		x := stream(t, 128, mine.text(s))
+		mine.takenBack(t)
+		if got != librarySum(256, s) {
 			t.Errorf("P2: a sum hangs on its text of %d bytes when it is made already", n)
 		}
-		if squeeze(t, x, 200) != libraryStream(128, string(was), 200) {
+		if squeeze(t, x, 200) != libraryStream(128, s, 200) {
 			t.Errorf("P2: a stream keeps a text of %d bytes", n)
 		}
 	}

@@ -423,8 +423,8 @@ func TestP14TextsWithAnotherByte(t *testing.T) {
 	}
 }
 
-// hintText has places, noughts and ends.
-func (w signSet) hintText(places string, ends ...byte) string {
+// hinted has places, noughts and ends.
+func (w signSet) hinted(places string, ends ...byte) string {
 	b := make([]byte, w.omega+w.k)
 	copy(b, places)
 	for i := range w.k {
@@ -433,41 +433,48 @@ func (w signSet) hintText(places string, ends ...byte) string {
 	return string(b)
 }
 
+type hintText struct {
+	what, s string
+	are     bool
+}
+
+// hintTexts are texts at the edges of what packed hints are, and whether they are some.
+func (w signSet) hintTexts() []hintText {
+	omega := byte(w.omega)
+	full := make([]byte, w.omega)
+	for i := range full {
+		full[i] = byte(i)
+	}
+	return []hintText{
+		{"noughts", w.hinted("", 0), true},
+		{"a place 0", w.hinted("\x00", 1), true},
+		{"a place 255", w.hinted("\xff", 1), true},
+		{"falling from polynomial to polynomial", w.hinted("\x05\x04", 1, 2), true},
+		{"a place in two polynomials", w.hinted("\x05\x05", 1, 2), true},
+		{"just omega", w.hinted(string(full), omega), true},
+		{"just omega, in the last one", w.hinted(string(full), append(make([]byte, w.k-1), omega)...), true},
+		{"falling", w.hinted("\x05\x04", 2), false},
+		{"a place twice", w.hinted("\x05\x05", 2), false},
+		{"place 0 twice", w.hinted("", 2), false},
+		{"falling at the end", w.hinted("\x01\x02\x03\x02", 4), false},
+		{"ends that fall", w.hinted("\x01\x02", 2, 1), false},
+		{"ends that fall at last", w.hinted("\x01\x02", append([]byte(strings.Repeat("\x02", w.k-1)), 0)...), false},
+		{"an end behind omega", w.hinted(string(full), omega+1), false},
+		{"a last end behind omega", w.hinted(string(full), append(make([]byte, w.k-1), omega+1)...), false},
+		{"an end that is 255", w.hinted(string(full), 255), false},
+		{"an end behind omega that falls", w.hinted(string(full), 255, 0), false},
+		{"a place behind the last end", w.hinted("\x01\x02", 1), false},
+		{"places and no end", w.hinted("\x01", 0), false},
+		{"a last place behind the last end", w.hinted(string(full), omega-1), false},
+		{"nothing but 255", strings.Repeat("\xff", w.omega+w.k), false},
+	}
+}
+
 func TestP14TextsThatAreNoHints(t *testing.T) {
 	for _, w := range signSets {
-		omega := byte(w.omega)
-		full := make([]byte, w.omega)
-		for i := range full {
-			full[i] = byte(i)
-		}
-		for _, c := range []struct {
-			what, s string
-			want    bool
-		}{
-			{"noughts", w.hintText("", 0), true},
-			{"a place 0", w.hintText("\x00", 1), true},
-			{"a place 255", w.hintText("\xff", 1), true},
-			{"falling from polynomial to polynomial", w.hintText("\x05\x04", 1, 2), true},
-			{"a place in two polynomials", w.hintText("\x05\x05", 1, 2), true},
-			{"just omega", w.hintText(string(full), omega), true},
-			{"just omega, in the last one", w.hintText(string(full), append(make([]byte, w.k-1), omega)...), true},
-			{"falling", w.hintText("\x05\x04", 2), false},
-			{"a place twice", w.hintText("\x05\x05", 2), false},
-			{"place 0 twice", w.hintText("", 2), false},
-			{"falling at the end", w.hintText("\x01\x02\x03\x02", 4), false},
-			{"ends that fall", w.hintText("\x01\x02", 2, 1), false},
-			{"ends that fall at last", w.hintText("\x01\x02", append([]byte(strings.Repeat("\x02", w.k-1)), 0)...), false},
-			{"an end behind omega", w.hintText(string(full), omega+1), false},
-			{"a last end behind omega", w.hintText(string(full), append(make([]byte, w.k-1), omega+1)...), false},
-			{"an end that is 255", w.hintText(string(full), 255), false},
-			{"an end behind omega that falls", w.hintText(string(full), 255, 0), false},
-			{"a place behind the last end", w.hintText("\x01\x02", 1), false},
-			{"places and no end", w.hintText("\x01", 0), false},
-			{"a last place behind the last end", w.hintText(string(full), omega-1), false},
-			{"nothing but 255", strings.Repeat("\xff", w.omega+w.k), false},
-		} {
-			if w.wantUnpacked(t, c.s) != c.want {
-				t.Errorf("P14: set %d: %s: hints: %v, want %v", w.set, c.what, !c.want, c.want)
+		for _, c := range w.hintTexts() {
+			if w.wantUnpacked(t, c.s) != c.are {
+				t.Errorf("P14: set %d: %s: hints: %v, want %v", w.set, c.what, !c.are, c.are)
 			}
 		}
 	}
@@ -618,6 +625,6 @@ func TestP2HintsLeaveNoGoroutine(t *testing.T) {
 		latticekeys.UseHint(w.set, h, filled(i))
 		s, _ := latticekeys.PackHint(w.set, w.gathered(0, 0, i%w.omega))
 		latticekeys.UnpackHint(w.set, s)
-		latticekeys.UnpackHint(w.set, w.hintText("\x01", 0))
+		latticekeys.UnpackHint(w.set, w.hinted("\x01", 0))
 	})
 }

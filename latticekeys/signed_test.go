@@ -1,7 +1,6 @@
 package latticekeys_test
 
 import (
-	"bytes"
 	"crypto/mldsa"
 	"crypto/sha3"
 	"encoding/hex"
@@ -17,7 +16,7 @@ import (
 	"latticekeys/latticekeys"
 )
 
-// signing is a set as P15 tells it, beside what P12 and P14 say; its methods are P15 to P17 word by word, on coefficients mod± q.
+// signing is a set as P15 tells it, beside what P12 and P14 say; its methods are P15 to P18 word by word, on coefficients mod± q.
 type signing struct {
 	signSet
 	l, eta, gamma1, tau, challenge int
@@ -31,6 +30,10 @@ var signings = []signing{
 }
 
 func (w signing) beta() int { return w.tau * w.eta }
+
+func (w signing) highBits() int { return map[int]int{44: 6, 65: 4, 87: 4}[w.set] }
+
+func (w signing) maskBits() int { return map[int]int{44: 18, 65: 20, 87: 20}[w.set] }
 
 // smallBytes are those of a packed polynomial of s1 or s2.
 func (w signing) smallBytes() int { return 32 * bits.Len(uint(2*w.eta)) }
@@ -170,10 +173,10 @@ func multiplied(f, g api.Poly) (h api.Poly) {
 	return centredAsTold(h)
 }
 
-// attempt is what a try comes to: the greatest |z|, |low| and |g|, how many hints are 1; and the signature, if it is not rejected.
+// attempt is what a try comes to: the greatest |z|, |low| and |g|, how many hints are 1; what is made, if its hints can be packed; and the signature, if it is not rejected.
 type attempt struct {
 	z, low, g, ones int
-	signature       string
+	made, signature string
 }
 
 func farthest(far int, f api.Poly) int {
@@ -194,14 +197,14 @@ func (w signing) try(sk, m, rnd string, n int) (a attempt) {
 	y := make([]api.Poly, w.l)
 	for j := range y {
 		number := n*w.l + j
-		drawn := libraryStream(256, seed+string([]byte{byte(number % 256), byte(number / 256)}), 32*bits.Len(uint(2*w.gamma1-1)))
+		drawn := libraryStream(256, seed+string([]byte{byte(number % 256), byte(number / 256)}), 32*w.maskBits())
 		y[j] = readAsTold(drawn, 0, w.gamma1-1, w.gamma1)
 	}
 	all := mu
 	product := w.times(rho, y)
 	for _, f := range product {
 		high, _, _ := latticekeys.Decompose(w.set, moduloAsTold(f))
-		all += packAsTold(map[int]int{44: 6, 65: 4, 87: 4}[w.set], high)
+		all += packAsTold(w.highBits(), high)
 	}
 	c := libraryStream(256, all, w.challenge)
 	ball := w.ballAsTold(c)
@@ -221,8 +224,12 @@ func (w signing) try(sk, m, rnd string, n int) (a attempt) {
 		hints[i] = h
 		a.ones += ones
 	}
-	if a.z < w.gamma1-w.beta() && a.low < w.gamma-w.beta() && a.g < w.gamma && a.ones <= w.omega {
-		a.signature = signature + sure(latticekeys.PackHint(w.set, hints))
+	if a.ones > w.omega {
+		return a
+	}
+	a.made = signature + sure(latticekeys.PackHint(w.set, hints))
+	if a.z < w.gamma1-w.beta() && a.low < w.gamma-w.beta() && a.g < w.gamma {
+		a.signature = a.made
 	}
 	return a
 }
@@ -628,20 +635,10 @@ func TestP2SignedTextsAreNeitherWrittenNorKept(t *testing.T) {
 	for _, w := range signings {
 		pk, sk := w.keysAsTold(xi)
 		want, _ := w.signAsTold(sk, m, xi, api.MaxFuel)
-		var under [][]byte
-		mine := func(s string) string { // a text whose bytes this test can change
-			b := []byte(s)
-			under = append(under, b)
-			return unsafe.String(&b[0], len(b))
-		}
-		gotPk, gotSk := signKeys(t, w.set, mine(xi))
-		got := signed(t, w.set, mine(sk), mine(m), mine(xi))
-		for i, was := range []string{xi, sk, m, xi} {
-			if !bytes.Equal(under[i], []byte(was)) {
-				t.Fatalf("P2: set %d: text %d was written into", w.set, i)
-			}
-			clear(under[i])
-		}
+		var mine lent
+		gotPk, gotSk := signKeys(t, w.set, mine.text(xi))
+		got := signed(t, w.set, mine.text(sk), mine.text(m), mine.text(xi))
+		mine.takenBack(t)
 		if gotPk != pk || gotSk != sk || got != want {
 			t.Errorf("P2: set %d: answers hang on the texts when they are made already", w.set)
 		}

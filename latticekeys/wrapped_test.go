@@ -1,7 +1,6 @@
 package latticekeys_test
 
 import (
-	"bytes"
 	"crypto/mlkem"
 	"crypto/mlkem/mlkemtest"
 	"crypto/sha3"
@@ -10,7 +9,6 @@ import (
 	"math/rand"
 	"strings"
 	"testing"
-	"unsafe"
 
 	"latticekeys/api"
 	"latticekeys/latticekeys"
@@ -537,22 +535,12 @@ func TestP2KeysAreNeitherWrittenNorKept(t *testing.T) {
 	for _, w := range wrapSets {
 		ek, dk := w.keyGen(m, m)
 		key, c := w.encaps(ek, m)
-		var under [][]byte
-		mine := func(s string) string { // a text whose bytes this test can change
-			b := []byte(s)
-			under = append(under, b)
-			return unsafe.String(&b[0], len(b))
-		}
-		gotEk, gotDk := keyGen(t, w.set, mine(m), mine(m))
-		gotKey, gotC := encaps(t, w.set, mine(ek), mine(m))
-		again := decaps(t, w.set, mine(dk), mine(c))
-		none := decaps(t, w.set, mine(dk), mine(turned(c, 0, 1)))
-		for i, want := range []string{m, m, ek, m, dk, c, dk, turned(c, 0, 1)} {
-			if !bytes.Equal(under[i], []byte(want)) {
-				t.Fatalf("P2: set %d: text %d was written into", w.set, i)
-			}
-			clear(under[i])
-		}
+		var mine lent
+		gotEk, gotDk := keyGen(t, w.set, mine.text(m), mine.text(m))
+		gotKey, gotC := encaps(t, w.set, mine.text(ek), mine.text(m))
+		again := decaps(t, w.set, mine.text(dk), mine.text(c))
+		none := decaps(t, w.set, mine.text(dk), mine.text(turned(c, 0, 1)))
+		mine.takenBack(t)
 		if gotEk != ek || gotDk != dk || gotKey != key || gotC != c || again != key || none != w.decaps(dk, turned(c, 0, 1)) {
 			t.Errorf("P2: set %d: answers hang on the texts when they are made already", w.set)
 		}

@@ -39,6 +39,14 @@ func Halve(f Poly) (high, low Poly) {
 	return parted(f, func(a int) (int, int) { return nearest(a, halfStep) })
 }
 
+// Restored is what Halve parted, less the low parts. Of high parts that have 10 bits it is below q: 1,023 steps come to q - 1.
+func Restored(high Poly) Poly {
+	for i := range api.N {
+		high[i] *= halfStep
+	}
+	return high
+}
+
 // Decompose parts each coefficient by steps of 2 Gamma; the low parts come out as Halve's do.
 func (s Set) Decompose(f Poly) (high, low Poly) { return parted(f, s.part) }
 

@@ -52,11 +52,26 @@ func TestPartsStandModuloQ(t *testing.T) {
 	}
 }
 
+func TestRestored(t *testing.T) {
+	high := Poly{0, 1, 1023, 255: 512}
+	if got := Restored(high); got != (Poly{0, 8192, q - 1, 255: 4_194_304}) {
+		t.Errorf("restored: %v", got)
+	}
+	f := Poly{0, 4096, 4097, q - 1, q - 4097, q / 2}
+	parted, low := Halve(f)
+	for i, a := range Restored(parted) {
+		if (a+low[i])%q != f[i] {
+			t.Errorf("%d comes back as %d and %d", f[i], a, low[i])
+		}
+	}
+}
+
 func TestArgumentsStay(t *testing.T) {
 	s := set(t, 65)
 	f, g := Poly{1, 0, 1}, Poly{5, 300_000, q - 1}
 	was, gWas := f, g
 	Halve(g)
+	Restored(f)
 	s.Decompose(g)
 	s.Hint(f, g)
 	s.UseHint(f, g)

@@ -1,4 +1,4 @@
-// Package sign has signatures: ML-DSA (DOC.md, P15 to P17). What is wrong with what it is given it throws: a panic with an api.Errno.
+// Package sign has signatures: ML-DSA (DOC.md, P15 to P19). What is wrong with what it is given it throws: a panic with an api.Errno.
 package sign
 
 import (
@@ -65,4 +65,10 @@ func lowRange() span { return span{4095, 4096} }
 
 func (p *Parameters) secretKeyBytes() int {
 	return 2*seedBytes + hashBytes + (p.l+p.K)*p.secretRange().bytes() + p.K*lowRange().bytes()
+}
+
+func (p *Parameters) publicKeyBytes() int { return seedBytes + p.K*ring.PackedBytes(publicBits) }
+
+func (p *Parameters) signatureBytes() int {
+	return p.challengeBytes + p.l*p.maskRange().bytes() + p.HintBytes()
 }

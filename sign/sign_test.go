@@ -9,6 +9,7 @@ import (
 	"latticekeys/api"
 	"latticekeys/lattice"
 	"latticekeys/ring"
+	"latticekeys/text"
 )
 
 var sets = []int{44, 65, 87}
@@ -176,6 +177,47 @@ func TestSecretKeysComeBack(t *testing.T) {
 	}
 }
 
+func TestP16P17Lengths(t *testing.T) {
+	for set, want := range map[int][3]int{44: {1312, 2560, 2420}, 65: {1952, 4032, 3309}, 87: {2592, 4896, 4627}} {
+		p := New(set)
+		if got := [3]int{p.publicKeyBytes(), p.secretKeyBytes(), p.signatureBytes()}; got != want {
+			t.Errorf("P16, P17: set %d: keys and signatures of %v bytes, want %v", set, got, want)
+		}
+	}
+}
+
+// What verifies goes without the secrets, and still has, by the hints, the high parts that the signer had.
+func TestP18NearTheSignersParts(t *testing.T) {
+	for _, set := range sets {
+		p, seed := New(set), strings.Repeat("s", seedBytes)
+		public, secret := p.Keys(seed)
+		s := newSigner(p.readSecretKey(secret), "message", seed)
+		for n := range api.MaxFuel {
+			signature, found := s.signature(n)
+			if !found {
+				continue
+			}
+			c := text.Cut(&signature, p.challengeBytes)
+			z := p.maskRange().unpacked(p.ring, text.Cut(&signature, p.l*p.maskRange().bytes()))
+			hints, _ := p.UnpackHint(signature)
+			want, _ := parted(s.times(s.matrix, s.mask(n)), s.Decompose)
+			if got := vector(hints).With(p.near(public, c, z), p.UseHint); !reflect.DeepEqual(got, want) {
+				t.Errorf("P18: set %d: other high parts than the signer's", set)
+			}
+			break
+		}
+	}
+}
+
+func TestP19InContext(t *testing.T) {
+	long := strings.Repeat("c", contextBytes)
+	for _, c := range [][3]string{{"", "", "\x00\x00"}, {"", "m", "\x00\x00m"}, {"c", "", "\x00\x01c"}, {"ctx", "m", "\x00\x03ctxm"}, {long, "m", "\x00\xff" + long + "m"}} {
+		if got := inContext(c[0], c[1]); got != c[2] {
+			t.Errorf("P19: %q in the context %q is %q", c[1], c[0], got)
+		}
+	}
+}
+
 func TestWhatIsWrongIsThrown(t *testing.T) {
 	p, seed := New(44), strings.Repeat("s", seedBytes)
 	_, sk := p.Keys(seed)
@@ -193,6 +235,11 @@ func TestWhatIsWrongIsThrown(t *testing.T) {
 		{func() { p.Sign(sk, "", seed, api.MaxFuel+1) }, api.ErrBound},
 		{func() { p.Sign(sk, "", seed, 0) }, api.ErrFuel},
 		{func() { p.Sign(sk, "", seed, api.MaxFuel) }, nil},
+		{func() { p.SignWith(sk, strings.Repeat("c", contextBytes+1), "", seed, api.MaxFuel) }, api.ErrLength},
+		{func() { p.SignWith(sk, strings.Repeat("c", contextBytes), "", seed, api.MaxFuel) }, nil},
+		{func() { p.SignWith(sk, "", "", seed, 0) }, api.ErrFuel},
+		{func() { p.Verify("", "", "") }, nil},
+		{func() { p.VerifyWith("", strings.Repeat("c", contextBytes+1), "", "") }, nil},
 	} {
 		if got := thrown(w.call); got != w.want {
 			t.Errorf("thrown: %v, want %v", got, w.want)
